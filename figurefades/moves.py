@@ -1,13 +1,14 @@
 """The calls on a figure, read from one list of whole numbers, and their answers."""
 
-from figurefades.figure import Clip, Figure, State, Way
-from figurefades.refusals import clip_refusal, set_refusal, signal_refusal
+from figurefades.figure import Clip, Figure, State, Way, clip_of, is_over, picture_at
+from figurefades.refusals import clip_refusal, goto_refusal, set_refusal, signal_refusal
 from figurefades.refusals import state_refusal, ticks_refusal, way_refusal
-from figurefades.ticking import tick
+from figurefades.shares import shares_of
+from figurefades.ticking import may_be_taken, tick
 
 # By a call's number: how many whole numbers it has, and whether a row stands behind them.
-PLAIN_NUMBERS = (2, 2, 3, 2, 1, 1)
-HAS_ROW = (True, False, True, False, False, False)
+PLAIN_NUMBERS = (2, 2, 3, 2, 1, 1, 0, 0, 1, 0, 0)
+HAS_ROW = (True, False, True, False, False, False, False, False, False, False, False)
 
 # By a condition's kind: how many numbers it has, the kind among them.
 CONDITION_NUMBERS = (3, 3, 2, 1)
@@ -87,8 +88,45 @@ def ticks_answer(figure, plain, row):
     return [ticks_told] + told
 
 
+def shown_answer(figure, plain, row):
+    shown = [(figure.plays, figure.count)] + [(fade.state, fade.count) for fade in figure.fades]
+    shares = shares_of(figure.fades)
+    told = [len(shown)]
+    for place in range(len(shown)):
+        state = shown[place][0]
+        told.extend([state, picture_at(clip_of(figure, state), shown[place][1])])
+        told.extend(shares[place])
+    return told
+
+
+def may_answer(figure, plain, row):
+    ways = [number for number in range(len(figure.ways)) if may_be_taken(figure, figure.ways[number])]
+    return [len(ways)] + ways
+
+
+def goto_answer(figure, plain, row):
+    refusal = goto_refusal(figure, plain[0])
+    if refusal < 0:
+        return [refusal]
+    figure.plays = plain[0]
+    figure.count = 0
+    figure.fades = []
+    return [0]
+
+
+def now_answer(figure, plain, row):
+    clip = clip_of(figure, figure.plays)
+    over = 1 if is_over(clip, figure.count) else 0
+    return [figure.plays, figure.count, picture_at(clip, figure.count), over, len(figure.fades), figure.ticks]
+
+
+def values_answer(figure, plain, row):
+    return figure.settings + [len(figure.signals)] + figure.signals
+
+
 # By a call's number.
-CALL_ANSWERS = (clip_answer, state_answer, way_answer, set_answer, signal_answer, ticks_answer)
+CALL_ANSWERS = (clip_answer, state_answer, way_answer, set_answer, signal_answer, ticks_answer,
+                shown_answer, may_answer, goto_answer, now_answer, values_answer)
 
 
 def answers(calls):

@@ -82,3 +82,9 @@ def ticks_refusal(many):
     if many > MOST_TICKS:
         return TOO_MUCH
     return GRANTED
+
+
+def goto_refusal(figure, state):
+    if state >= len(figure.states):
+        return NOT_THERE
+    return GRANTED

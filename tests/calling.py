@@ -31,6 +31,26 @@ def ticks(many):
     return [5, many]
 
 
+def shown():
+    return [6]
+
+
+def may():
+    return [7]
+
+
+def goto(state_number):
+    return [8, state_number]
+
+
+def now():
+    return [9]
+
+
+def values():
+    return [10]
+
+
 def at_least(value, number):
     return (0, value, number)
 
@@ -79,4 +99,13 @@ def told(*calls):
         at = end
     if at > len(numbers) or len(rows) != numbers[0]:
         raise ValueError("the ticks answer does not hold what it counts")
+    return rows
+
+
+def seen(*calls):
+    """What is shown behind the calls, as a list of (state, picture, share above, share below)."""
+    numbers = last(*calls, shown())
+    rows = [tuple(numbers[at:at + 4]) for at in range(1, len(numbers), 4)]
+    if len(numbers) != 1 + 4 * numbers[0]:
+        raise ValueError("the shown answer does not hold what it counts")
     return rows

@@ -1,4 +1,4 @@
-"""What fades is part of a tick; no call tells it yet, so the figure itself is looked at."""
+"""What a tick does to all that fades, looked at in the figure itself; test_shown.py looks at what is told of it."""
 
 import unittest
 

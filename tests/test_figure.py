@@ -1,4 +1,4 @@
-"""What no call tells yet of a figure: its beginning, the picture at a count, and how a way is kept."""
+"""A figure looked at in itself: its beginning, the picture at a count, and how a way is kept."""
 
 import unittest
 

@@ -15,6 +15,15 @@ WORDS_NOT_USED = re.compile(r"\b(type|typing|typing_extensions|enum|Enum|IntEnum
                             r"|ABC|ABCMeta|namedtuple|NamedTuple|TypedDict|TYPE_CHECKING|abstractmethod)\b"
                             r"|dataclass|overload|contextmanager")
 
+# The methods of Python's own values that may be called; the package's own classes have none but __init__.
+METHODS = {"append", "clear", "copy", "count", "endswith", "extend", "find", "get", "index", "insert", "items", "join",
+           "keys", "pop", "remove", "replace", "reverse", "setdefault", "split", "startswith", "strip", "update",
+           "values"}
+
+# What an object's value may be called although Python's own values have it.
+VALUES = {"count", "index", "title", "find", "get", "join", "lower", "upper", "split", "strip", "copy", "add"}
+OWN_KINDS = (str, int, list, tuple, dict, set, bytes)
+
 NODES = (ast.Module, ast.FunctionDef, ast.arguments, ast.arg, ast.ClassDef, ast.ImportFrom, ast.alias, ast.Assign,
          ast.AugAssign, ast.If, ast.While, ast.For, ast.Return, ast.Break, ast.Continue, ast.Pass, ast.Expr,
          ast.Constant, ast.List, ast.Tuple, ast.Dict, ast.BinOp, ast.UnaryOp, ast.BoolOp, ast.Compare, ast.IfExp,
@@ -68,6 +77,16 @@ class Language(unittest.TestCase):
                     self.assertEqual(node.decorator_list, [], (path, node.name))
                 if isinstance(node, ast.ImportFrom):
                     self.assertTrue(node.module.startswith("figurefades."), path)
+
+    def test_methods_and_values_of_objects(self):
+        for path in files():
+            tree = ast.parse(path.read_text())
+            called = {node.func.attr for node in ast.walk(tree)
+                      if isinstance(node, ast.Call) and isinstance(node.func, ast.Attribute)}
+            self.assertEqual(called - METHODS, set(), path)
+            stored = {node.attr for node in ast.walk(tree)
+                      if isinstance(node, ast.Attribute) and isinstance(node.ctx, ast.Store)}
+            self.assertEqual({name for name in stored - VALUES if any(hasattr(kind, name) for kind in OWN_KINDS)}, set())
 
     def test_names(self):
         for path in files():

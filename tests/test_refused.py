@@ -1,20 +1,26 @@
 import unittest
 
-from tests.calling import OVER, ask, at_least, at_most, clip, set_value, signal, state, there, ticks, way
+from tests.calling import (MOST, OVER, ask, at_least, at_most, clip, goto, may, now, set_value, shown, signal, state,
+                           there, ticks, values, way)
 
 STORY = (
     clip(3, 1, (0, 1), (2, 3)), clip(2, 0, (1, 7)), state(1, 1), state(2, 1),
     way(1, 1, 3, at_least(0, 5)), way(2, 2, 2, there(4)), way(3, 0, 0, OVER, at_most(0, 5)),
-    ticks(2), set_value(0, 5), ticks(3), signal(4), ticks(4), signal(4), signal(2), ticks(9),
-    clip(1, 1), state(3, 1), way(0, 3, 0, there(2)), ticks(2),
+    ticks(2), set_value(0, 5), ticks(3), shown(), may(), signal(4), may(), ticks(4), shown(), now(),
+    signal(4), signal(2), values(), ticks(9),
+    clip(1, 1), state(3, 1), way(0, 3, 0, there(2)), may(), ticks(2), shown(), may(), now(), values(),
+    goto(1), ticks(1), now(),
 )
 
 STORY_ANSWERS = [
     [1], [2], [1], [2],
     [0], [1], [2],
-    [0], [0], [2, 3, 2, 1, 1, 5, 0, 1, 3], [1], [3, 6, 3, 1, 1, 7, 1, 1, 7, 8, 2, 1, 1], [1], [2],
+    [0], [0], [2, 3, 2, 1, 1, 5, 0, 1, 3], [2, 1, 2, 2, 3, 0, 0, 1, 3], [0], [1], [1, 1],
+    [3, 6, 3, 1, 1, 7, 1, 1, 7, 8, 2, 1, 1], [2, 1, 1, 1, 3, 0, 0, 2, 3], [1, 1, 1, 0, 1, 9],
+    [1], [2], [5] + [0] * 9 + [2, 4, 2],
     [7, 10, 3, 1, 3, 11, 1, 1, 7, 12, 2, 1, 1, 14, 0, 1, 3, 15, 0, 1, 1, 17, 0, 1, 3, 18, 0, 1, 1],
-    [3], [3], [3], [1, 19, 4, 0],
+    [3], [3], [3], [1, 3], [1, 19, 4, 0], [1, 3, 0, 1, 1], [0], [3, 1, 0, 0, 0, 20], [5] + [0] * 9 + [0],
+    [0], [0], [1, 1, 1, 0, 0, 21],
 ]
 
 REFUSED = (
@@ -24,6 +30,7 @@ REFUSED = (
     (way(0, 0, 51), -1), (way(0, 0, 0, *[at_least(0, 0)] * 5), -1), (way(0, 0, 0, there(10)), -1),
     (way(0, 0, 0, at_least(10, 0)), -1), (way(0, 0, 0, at_most(0, 1000)), -1), (way(0, 9, 0), -2), (way(9, 0, 0), -2),
     (set_value(10, 0), -1), (set_value(0, 1000), -1), (signal(10), -1), (ticks(101), -1),
+    (goto(4), -2), (goto(MOST), -2),
 )
 
 
